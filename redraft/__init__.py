@@ -1,0 +1,1 @@
+"""Redraft: what changed between two texts of words."""
